@@ -1,0 +1,1 @@
+"""Tables of keys and values that several processes use: see heldtables.tables.answers."""
