@@ -88,6 +88,38 @@ class Table:
         row.there = False
         self.tidy()
 
+    def knows_next(self, key):
+        """Whether one knows the next row behind this key: in buckets its own row tells the place."""
+        return self.in_order or self.row_placed(key) is not None
+
+    def rows_behind(self, key):
+        """The rows that are there behind a key whose next one is known, in a walk's order."""
+        if self.in_order:
+            return [row for row in self.rows_there() if row.key > key]
+        rows = self.all_rows()
+        place = [row.key for row in rows].index(key)
+        return [row for row in rows[place + 1:] if row.there]
+
+    def rows_valued(self, least, most):
+        """The rows that are there with a value from least to most, by key."""
+        rows = [row for row in self.rows_there() if least <= row.value <= most]
+        return sorted(rows, key=lambda row: row.key)
+
+    def times_held(self):
+        """How many times it's held, by all processes together."""
+        return sum(self.holders.values())
+
+    def hold(self, process):
+        """This process holds the table once more."""
+        self.holders[process] = self.holders.get(process, 0) + 1
+
+    def let_go(self, process):
+        """A process that holds the table holds it once less."""
+        if self.holders[process] > 1:
+            self.holders[process] -= 1
+        else:
+            self.end_holder(process)
+
     def end_holder(self, process):
         """This process holds the table no more, however many times it did."""
         if process in self.holders:

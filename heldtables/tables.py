@@ -7,14 +7,17 @@ NOT_LIVING = -1
 WRONG_NUMBER = -2
 NO_TABLE = -3
 NOT_ALLOWED = -4
+NOT_THERE = -5
 TOO_MANY = -6
 
 MOST_PROCESSES = 8
 MOST_TABLES = 6
 MOST_ROWS = 100
+MOST_HOLDS = 20
 GREATEST_KEY = 999
 GREATEST_VALUE = 1000000
 
+IN_BUCKETS = 0
 IN_ORDER = 1
 NOBODY = 0
 
@@ -25,7 +28,7 @@ WRITING = 2
 OWNING = 3
 
 # How many numbers each call has behind its own, by the calls' numbers.
-NUMBERS_BEHIND = (0, 1, 4, 2, 3, 4, 4, 3, 3)
+NUMBERS_BEHIND = (0, 1, 4, 2, 3, 4, 4, 3, 3, 4, 2, 3, 2, 2, 4, 1, 1)
 
 
 class World:
@@ -176,6 +179,90 @@ def answer_get(world, p, t, k):
     return [0] if row is None else [1, row.value]
 
 
+def answer_bump(world, p, t, k, d):
+    refusal = refusal_of_access(world, p, t, WRITING)
+    if refusal != NO_REFUSAL:
+        return [refusal]
+    row = world.tables[t].row_there(k)
+    if row is None:
+        return [NOT_THERE]
+    if d > GREATEST_VALUE:
+        return [WRONG_NUMBER]
+    row.value = (row.value + d) % (GREATEST_VALUE + 1)
+    return [row.value]
+
+
+def first_key(rows):
+    """1 and the key of the first of these rows, or 0 if there are none."""
+    return [1, rows[0].key] if len(rows) > 0 else [0]
+
+
+def answer_first(world, p, t):
+    refusal = refusal_of_access(world, p, t, READING)
+    if refusal != NO_REFUSAL:
+        return [refusal]
+    return first_key(world.tables[t].rows_there())
+
+
+def answer_next(world, p, t, k):
+    refusal = refusal_of_access(world, p, t, READING)
+    if refusal != NO_REFUSAL:
+        return [refusal]
+    table = world.tables[t]
+    if not table.knows_next(k):
+        return [NOT_THERE]
+    return first_key(table.rows_behind(k))
+
+
+def answer_hold(world, p, t):
+    refusal = refusal_of_access(world, p, t, READING)
+    if refusal != NO_REFUSAL:
+        return [refusal]
+    table = world.tables[t]
+    if table.times_held() >= MOST_HOLDS:
+        return [TOO_MANY]
+    table.hold(p)
+    return [table.times_held()]
+
+
+def answer_letgo(world, p, t):
+    refusal = refusal_of_access(world, p, t, READING)
+    if refusal != NO_REFUSAL:
+        return [refusal]
+    table = world.tables[t]
+    if p not in table.holders:
+        return [NOT_THERE]
+    table.let_go(p)
+    return [table.times_held()]
+
+
+def answer_which(world, p, t, least, most):
+    refusal = refusal_of_access(world, p, t, READING)
+    if refusal != NO_REFUSAL:
+        return [refusal]
+    rows = world.tables[t].rows_valued(least, most)
+    answer = [len(rows)]
+    for row in rows:
+        answer.extend([row.key, row.value])
+    return answer
+
+
+def answer_table(world, t):
+    if t not in world.tables:
+        return [NO_TABLE]
+    table = world.tables[t]
+    sort = IN_ORDER if table.in_order else IN_BUCKETS
+    sizes = [len(table.rows_there()), len(table.buckets), table.times_held()]
+    return [sort, table.owner, table.heir, table.access] + sizes
+
+
+def answer_order(world, t):
+    if t not in world.tables:
+        return [NO_TABLE]
+    keys = [row.key for row in world.tables[t].rows_there()]
+    return [len(keys)] + keys
+
+
 def answer_call(world, number, behind):
     """What the call with this number answers, given the numbers behind it."""
     if number == 0:
@@ -194,7 +281,28 @@ def answer_call(world, number, behind):
         return answer_only(world, behind[0], behind[1], behind[2], behind[3])
     if number == 7:
         return answer_out(world, behind[0], behind[1], behind[2])
-    return answer_get(world, behind[0], behind[1], behind[2])
+    if number == 8:
+        return answer_get(world, behind[0], behind[1], behind[2])
+    return answer_later_call(world, number, behind)
+
+
+def answer_later_call(world, number, behind):
+    """Likewise, for the calls from bump on."""
+    if number == 9:
+        return answer_bump(world, behind[0], behind[1], behind[2], behind[3])
+    if number == 10:
+        return answer_first(world, behind[0], behind[1])
+    if number == 11:
+        return answer_next(world, behind[0], behind[1], behind[2])
+    if number == 12:
+        return answer_hold(world, behind[0], behind[1])
+    if number == 13:
+        return answer_letgo(world, behind[0], behind[1])
+    if number == 14:
+        return answer_which(world, behind[0], behind[1], behind[2], behind[3])
+    if number == 15:
+        return answer_table(world, behind[0])
+    return answer_order(world, behind[0])
 
 
 def answers(calls):

@@ -6,8 +6,11 @@ from heldtables.tables import answers
 
 GREATEST = 4294967295
 
-NAMES = ("start", "ends", "new", "drop", "give", "put", "only", "out", "get")
-NUMBERS_BEHIND = (0, 1, 4, 2, 3, 4, 4, 3, 3)
+NAMES = (
+    "start", "ends", "new", "drop", "give", "put", "only", "out", "get",
+    "bump", "first", "next", "hold", "letgo", "which", "table", "order",
+)
+NUMBERS_BEHIND = (0, 1, 4, 2, 3, 4, 4, 3, 3, 4, 2, 3, 2, 2, 4, 1, 1)
 
 
 def split(answered):

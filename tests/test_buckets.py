@@ -4,7 +4,6 @@ import random
 import unittest
 
 from heldtables.rows import Table, bucket_number, fitter_number
-from heldtables.tables import World, answer_ends, answer_give, answer_new, answer_out, answer_put, answer_start
 
 
 def table_with(keys, in_order=False):
@@ -133,7 +132,7 @@ class GrowAndShrinkTest(unittest.TestCase):
 class HeldTest(unittest.TestCase):
     def test_held_nothing_moves(self):
         table = table_with([0, 1, 2, 3])
-        table.holders[1] = 1
+        table.hold(1)
         for key in range(4, 9):
             table.put_in(key, key)
         self.assertEqual(keys_in(table), [[0, 2, 4, 6, 8], [1, 3, 5, 7]])
@@ -141,7 +140,7 @@ class HeldTest(unittest.TestCase):
     def test_held_what_is_taken_out_keeps_its_place(self):
         for in_order, places in ((False, [[0, 2, 4], [1]]), (True, [[0, 1, 2, 4]])):
             table = table_with([0, 2, 1, 4], in_order)
-            table.holders[1] = 1
+            table.hold(1)
             take_out(table, 2)
             self.assertEqual(keys_in(table), places)
             self.assertEqual(keys_there(table), [0, 4, 1] if not in_order else [0, 1, 4])
@@ -153,7 +152,8 @@ class HeldTest(unittest.TestCase):
 
     def test_let_go_it_is_tidied_step_by_step(self):
         table = table_with([4, 0, 12, 8, 1, 2, 3, 5, 6])
-        table.holders[1] = 2
+        table.hold(1)
+        table.hold(1)
         for key in (8, 12, 1, 2, 3, 5, 6):
             take_out(table, key)
         self.assertEqual(keys_in(table), [[0, 8], [1, 5], [2, 6], [3], [4, 12]])
@@ -162,7 +162,7 @@ class HeldTest(unittest.TestCase):
 
     def test_it_grows_by_all_the_steps_between(self):
         table = table_with([])
-        table.holders[1] = 1
+        table.hold(1)
         for key in (6, 2, 3, 1, 0, 5, 4):
             table.put_in(key, key)
         self.assertEqual(keys_in(table), [[6, 2, 0, 4], [3, 1, 5]])
@@ -171,50 +171,14 @@ class HeldTest(unittest.TestCase):
 
     def test_another_still_holds_it(self):
         table = table_with([0, 2, 1, 4])
-        table.holders[1] = 1
-        table.holders[2] = 1
+        table.hold(1)
+        table.hold(2)
         take_out(table, 2)
         table.end_holder(1)
         table.end_holder(3)
         self.assertEqual(keys_in(table), [[0, 2, 4], [1]])
         table.end_holder(2)
         self.assertEqual(keys_in(table), [[0, 4], [1]])
-
-
-class EndsHoldingTest(unittest.TestCase):
-    def world_with_a_held_table(self, heir):
-        world = World()
-        for number in range(3):
-            answer_start(world)
-        answer_new(world, 1, 0, 2, heir)
-        world.tables[1].holders[2] = 3
-        for key in (0, 2, 1, 4):
-            answer_put(world, 3, 1, key, key)
-        answer_out(world, 3, 1, 2)
-        return world
-
-    def test_who_ends_holds_nothing_and_it_is_tidied(self):
-        world = self.world_with_a_held_table(0)
-        self.assertEqual(keys_in(world.tables[1]), [[0, 2, 4], [1]])
-        self.assertEqual(answer_ends(world, 3), [1])
-        self.assertEqual(keys_in(world.tables[1]), [[0, 2, 4], [1]])
-        self.assertEqual(answer_ends(world, 2), [1])
-        self.assertEqual(keys_in(world.tables[1]), [[0, 4], [1]])
-        self.assertEqual(world.tables[1].holders, {})
-
-    def test_the_owner_that_holds_it_ends(self):
-        world = self.world_with_a_held_table(3)
-        answer_give(world, 1, 1, 2)
-        self.assertEqual(answer_ends(world, 2), [1])
-        self.assertEqual(world.tables[1].owner, 3)
-        self.assertEqual(world.tables[1].heir, 0)
-        self.assertEqual(keys_in(world.tables[1]), [[0, 4], [1]])
-
-    def test_it_stays_held_when_its_owner_alone_ends(self):
-        world = self.world_with_a_held_table(3)
-        self.assertEqual(answer_ends(world, 1), [1])
-        self.assertEqual(world.tables[1].holders, {2: 3})
-        self.assertEqual(keys_in(world.tables[1]), [[0, 2, 4], [1]])
 
 
 if __name__ == "__main__":

@@ -2,8 +2,6 @@
 
 import unittest
 
-from heldtables.tables import answer_drop, answer_get, answer_new, answer_only, answer_out, answer_put, answer_start
-from heldtables.tables import World
 from tests.helper import LineTest
 
 
@@ -156,43 +154,75 @@ class FullTableTest(LineTest):
         ]))
 
 
-class HeldTableTest(unittest.TestCase):
+class HeldTableTest(LineTest):
     """What the calls do with a table that process 2 holds."""
 
-    def held_world(self, sort):
-        world = World()
-        answer_start(world)
-        answer_start(world)
-        answer_new(world, 1, sort, 0, 0)
-        world.tables[1].holders[2] = 1
-        return world
+    def in_each_sort(self, text):
+        for sort in (0, 1):
+            self.line(f"start -> 1\nstart -> 2\nnew 1 {sort} 1 0 -> 1\nhold 2 1 -> 1\n" + text)
 
     def test_what_was_taken_out_is_not_there(self):
-        for sort in (0, 1):
-            world = self.held_world(sort)
-            answer_put(world, 1, 1, 5, 50)
-            answer_put(world, 1, 1, 6, 60)
-            self.assertEqual(answer_out(world, 1, 1, 5), [1])
-            self.assertEqual(answer_out(world, 1, 1, 5), [0])
-            self.assertEqual(answer_get(world, 1, 1, 5), [0])
-            self.assertEqual(answer_put(world, 1, 1, 5, 51), [0])
-            self.assertEqual(answer_get(world, 1, 1, 5), [1, 51])
-            self.assertEqual(answer_out(world, 1, 1, 6), [1])
-            self.assertEqual(answer_only(world, 1, 1, 6, 61), [1])
-            self.assertEqual(answer_out(world, 1, 1, 6), [1])
-            self.assertEqual(answer_drop(world, 1, 1), [1])
+        self.in_each_sort("""
+            put 1 1 5 50 -> 0
+            put 1 1 6 60 -> 0
+            out 1 1 5 -> 1
+            out 1 1 5 -> 0
+            get 1 1 5 -> 0
+            bump 1 1 5 1 -> -5
+            which 1 1 0 1000000 -> 1 6 60
+            put 1 1 5 51 -> 0
+            get 1 1 5 -> 1 51
+            put 1 1 5 52 -> 1
+            out 1 1 6 -> 1
+            only 1 1 6 61 -> 1
+            only 1 1 6 62 -> 0
+            get 1 1 6 -> 1 61
+            out 1 1 6 -> 1
+            drop 1 1 -> 1
+        """)
+
+    def test_keys_at_and_above_the_greatest(self):
+        self.in_each_sort("""
+            put 1 1 999 1 -> 0
+            put 1 1 1000 1 -> -2
+            only 1 1 1000 1 -> -2
+            out 1 1 1000 -> 0
+            out 1 1 4294967295 -> 0
+            out 1 1 999 -> 1
+            get 1 1 999 -> 0
+            get 1 1 1000 -> 0
+            get 1 1 4294967295 -> 0
+            only 1 1 999 1000001 -> -2
+            only 1 1 999 1000000 -> 1
+            get 1 1 999 -> 1 1000000
+        """)
 
     def test_a_hundred_rows_count_those_taken_out(self):
-        for sort in (0, 1):
-            world = self.held_world(sort)
-            for key in range(100):
-                self.assertEqual(answer_put(world, 1, 1, key, 1), [0])
-            self.assertEqual(answer_out(world, 1, 1, 7), [1])
-            self.assertEqual(answer_put(world, 1, 1, 500, 1), [-6])
-            self.assertEqual(answer_only(world, 1, 1, 500, 1), [-6])
-            self.assertEqual(answer_put(world, 1, 1, 7, 1), [-6])
-            self.assertEqual(answer_put(world, 1, 1, 8, 2), [1])
-            self.assertEqual(answer_drop(world, 1, 1), [99])
+        self.in_each_sort("\n".join(rows_put(100) + [
+            "out 1 1 7 -> 1",
+            "put 1 1 500 1 -> -6",
+            "only 1 1 500 1 -> -6",
+            "put 1 1 7 1 -> -6",
+            "only 1 1 7 1 -> -6",
+            "put 1 1 8 2 -> 1",
+            "only 1 1 8 3 -> 0",
+            "put 1 1 1000 1 -> -2",
+            "bump 1 1 8 1 -> 3",
+            "letgo 2 1 -> 0",
+            "put 1 1 500 1 -> 0",
+            "put 1 1 7 1 -> -6",
+            "drop 1 1 -> 100",
+        ]))
+
+    def test_ninety_nine_rows_with_one_taken_out_leave_room_for_one(self):
+        self.in_each_sort("\n".join(rows_put(99) + [
+            "out 1 1 0 -> 1",
+            "put 1 1 0 1 -> 0",
+            "out 1 1 0 -> 1",
+            "put 1 1 500 1 -> 0",
+            "put 1 1 501 1 -> -6",
+            "drop 1 1 -> 99",
+        ]))
 
 
 if __name__ == "__main__":
